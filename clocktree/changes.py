@@ -4,31 +4,17 @@ A refusal is answered before anything is changed. What the chip holds is replace
 """
 
 from clocktree.building import all_wire, built_from, built_without, mended, tied_anew
+from clocktree.chip import remember, state_of
 from clocktree.outcomes import Leaf, best_outcome
 from clocktree.places import in_parts
+from clocktree.refusals import NOT_THERE, NO_ROOM, NO_SUCH_ONE, OUT_OF_BOUNDS, TOO_MANY_SHAPES
 from clocktree.shapes import is_shape, pairs_of_tree, pairs_without, tree_of_numbers
-
-NO_SUCH_LEAF = -2
-TOO_MANY_SHAPES = -7
-NOT_THERE = -16
-OUT_OF_BOUNDS = -22
-NO_ROOM = -28
 
 FARTHEST = 100000
 LATEST = 100000
 ALL_STEPS = 65535
 MOST_LEAVES = 8
 MOST_PLANNED = 6
-
-
-class Chip:
-    """The source, the leaves, the plan's pairs or None, and what is built or None."""
-
-    def __init__(self):
-        self.source = (0, 0)
-        self.leaves = []
-        self.plan = None
-        self.built = None
 
 
 def is_in_reach(s, t):
@@ -45,14 +31,6 @@ def place_at(s, t):
 
 def leaf_at(s, t, late, need):
     return Leaf(place_at(s, t), in_parts(late), need)
-
-
-def answer_new(chip, numbers):
-    chip.source = (0, 0)
-    chip.leaves = []
-    chip.plan = None
-    chip.built = None
-    return [0]
 
 
 def answer_source(chip, numbers):
@@ -76,7 +54,7 @@ def answer_leaf(chip, numbers):
 def answer_move(chip, numbers):
     number = numbers[0]
     if number >= len(chip.leaves):
-        return [NO_SUCH_LEAF]
+        return [NO_SUCH_ONE]
     if not is_leaf(numbers[1], numbers[2], numbers[3], numbers[4]):
         return [OUT_OF_BOUNDS]
     leaf = leaf_at(numbers[1], numbers[2], numbers[3], numbers[4])
@@ -87,7 +65,7 @@ def answer_move(chip, numbers):
 def answer_drop(chip, numbers):
     number = numbers[0]
     if number >= len(chip.leaves):
-        return [NO_SUCH_LEAF]
+        return [NO_SUCH_ONE]
     chip.leaves = chip.leaves[:number] + chip.leaves[number + 1:]
     is_last = len(chip.leaves) == 0
     if chip.plan is not None:
@@ -143,7 +121,6 @@ def answer_retie(chip, numbers):
 
 
 CHANGES = {
-    0: answer_new,
     1: answer_source,
     2: answer_leaf,
     3: answer_move,
@@ -157,4 +134,9 @@ CHANGES = {
 
 
 def answer_change(chip, call, numbers):
-    return CHANGES[call](chip, numbers)
+    before = state_of(chip)
+    answer = CHANGES[call](chip, numbers)
+    # Only refusals begin with a number below 0, and what is refused is no change.
+    if answer[0] >= 0:
+        remember(chip, before)
+    return answer

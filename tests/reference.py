@@ -1,5 +1,6 @@
 """The document's words a second time, over trees of nodes and fractions, to hold the program against."""
 
+from copy import deepcopy
 from fractions import Fraction
 from itertools import product
 
@@ -17,6 +18,11 @@ class Node:
         if self.sides is None:
             return [self.leaf]
         return self.sides[0].leaves() + self.sides[1].leaves()
+
+    def joints(self):
+        if self.sides is None:
+            return []
+        return self.sides[0].joints() + self.sides[1].joints() + [self]
 
     def copy(self):
         if self.sides is None:
@@ -53,6 +59,14 @@ class Reference:
         self.planned = None
         self.tree = None
         self.trunk = None
+        self.done = []
+        self.undone = []
+
+    def all_there_is(self):
+        return deepcopy((self.source, self.leaf_list, self.planned, self.tree, self.trunk))
+
+    def make_as(self, kept):
+        self.source, self.leaf_list, self.planned, self.tree, self.trunk = kept
 
     # What a tree comes to: (intervals, time, wire, power), all in whole units.
     def comes_to(self, node):
@@ -106,6 +120,22 @@ class Reference:
 
     def all_wire(self):
         return self.trunk + self.wire(self.tree)
+
+    def wires(self):
+        """Each wire of what is built: how long it is, where it begins, and what it leads to."""
+        found = [(self.trunk, self.source, self.tree)]
+        for node in self.tree.joints():
+            found += [(length, node.place, side) for side, length in zip(node.sides, node.lengths)]
+        return found
+
+    def moments(self, node, moment):
+        """When it is at each leaf behind a node that it is at by then."""
+        if node.sides is None:
+            return {node.leaf: moment + self.leaf_list[node.leaf][1]}
+        found = {}
+        for side, length in zip(node.sides, node.lengths):
+            found.update(self.moments(side, moment + length))
+        return found
 
     # A leaf gone from a tree: what is left of the node, and how much longer the wire to it is.
     def left_over(self, node, k):
@@ -227,15 +257,93 @@ class Reference:
         self.tie_all(False)
         return [self.all_wire() * 256]
 
+    def do_undo(self):
+        if not self.done:
+            return [-6]
+        self.undone.append(self.all_there_is())
+        self.make_as(self.done.pop())
+        return [len(self.done)]
 
-NAMES = ("new", "source", "leaf", "move", "drop", "shape", "plan", "build", "mend", "retie")
+    def do_redo(self):
+        if not self.undone:
+            return [-6]
+        self.done.append(self.all_there_is())
+        self.make_as(self.undone.pop())
+        return [len(self.undone)]
+
+    def do_told(self):
+        if self.planned is None:
+            return [-16]
+        n = len(self.leaf_list)
+        joints = self.planned.joints()
+        pairs = []
+        for node in joints:
+            pairs += [side.leaf if side.sides is None else n + joints.index(side) for side in node.sides]
+        return [2 * n - 2] + pairs
+
+    def do_sums(self):
+        if self.tree is None:
+            return [-16]
+        power = sum(length * self.steps(node) for length, begin, node in self.wires())
+        return [self.all_wire() * 256, power * 256, self.trunk * 256]
+
+    def do_ends(self):
+        if self.tree is None:
+            return [-16]
+        moments = sorted(self.moments(self.tree, self.trunk).values())
+        return [moments[0] * 256, moments[-1] * 256]
+
+    def do_when(self, k):
+        if self.tree is None:
+            return [-16]
+        moments = self.moments(self.tree, self.trunk)
+        return [moments[k] * 256] if k in moments else [-2]
+
+    def do_joint(self, k):
+        if self.tree is None:
+            return [-16]
+        for node in self.tree.joints()[k:k + 1]:
+            return [0] + [one * 256 for one in (*node.place, *node.lengths)]
+        return [-2]
+
+    def do_short(self):
+        if self.tree is None:
+            return [-16]
+        return [sum(length < far(begin, self.place_of(node)) for length, begin, node in self.wires())]
+
+    def do_anew(self):
+        if self.tree is None:
+            return [-16]
+        if self.planned is None:
+            return [-2]
+        return [self.all_wire() * 256] + deepcopy(self).do_build()
+
+    def do_ticking(self, i):
+        if i > 15:
+            return [-22]
+        if self.tree is None:
+            return [-16]
+        ticks = [length for length, begin, node in self.wires()
+                 if any(self.leaf_list[k][2] & 2 ** i for k in node.leaves())]
+        return [sum(ticks) * 256]
+
+    def answer(self, call):
+        """The answer to one call, a list that begins with its number."""
+        numbers = call[2:] if call[0] == 5 else call[1:]
+        name = NAMES[call[0]]
+        before = self.all_there_is()
+        told = getattr(self, "do_" + name)(*numbers)
+        if name in CHANGES and told[0] >= 0:
+            self.done = (self.done + [before])[-20:]
+            self.undone = []
+        return told
+
+
+CHANGES = ("source", "leaf", "move", "drop", "shape", "plan", "build", "mend", "retie")
+NAMES = ("new", *CHANGES, "undo", "redo", "told", "sums", "ends", "when", "joint", "short", "anew", "ticking")
 
 
 def reference_answers(calls):
     """The answers to calls, each a list that begins with its number, as a list for each."""
     kept = Reference()
-    told = []
-    for call in calls:
-        numbers = call[2:] if call[0] == 5 else call[1:]
-        told.append(getattr(kept, "do_" + NAMES[call[0]])(*numbers))
-    return told
+    return [kept.answer(call) for call in calls]

@@ -4,9 +4,10 @@ import random
 import unittest
 
 from clocktree.changes import leaf_at
+from clocktree.clock import answers
 from clocktree.outcomes import all_outcomes
-from tests.asking import ask
-from tests.reference import all_shapes, reference_answers
+from tests.asking import apart, ask, flat
+from tests.reference import Reference, all_shapes, reference_answers
 
 
 def some_place(chance, span):
@@ -15,7 +16,10 @@ def some_place(chance, span):
 
 def some_leaf(chance, span):
     late = chance.choice((0, 0, chance.randint(0, span)))
-    return some_place(chance, span) + [late, chance.choice((0, 1, 3, 65535, chance.randint(0, 65535)))]
+    numbers = some_place(chance, span) + [late, chance.choice((0, 1, 3, 65535, chance.randint(0, 65535)))]
+    if chance.random() < 0.03:
+        numbers[chance.randrange(4)] = 100001 + 65535
+    return numbers
 
 
 def some_pairs(chance, n):
@@ -33,44 +37,70 @@ def some_pairs(chance, n):
     return [5, len(pairs)] + pairs
 
 
+OFTEN = (1, 3, 3, 3, 4, 5, 6, 7, 7, 8, 8, 9, 10, 10, 10, 11, 11)
+TELLING = (12, 13, 14, 15, 16, 17, 18, 19)
+
+
 def some_call(chance, n, span, most):
-    """One call, and how many leaves there are then."""
-    kind = chance.choice((1, 2, 2, 3, 3, 3, 4, 5, 5, 6, 7, 7, 7, 8, 8, 8, 9))
-    if n < 2 or (kind == 2 and n >= most):
+    """One call, where there are so many leaves."""
+    kind = chance.choice(OFTEN + TELLING + TELLING)
+    if chance.random() < 0.005:
+        return [0]
+    # Few leaves come once there are some: each takes the plan and what is built with it.
+    if kind < 10 and chance.random() < (0.7 if n < 2 else 0.04):
         kind = 2 if n < most else 3
     if kind == 2:
-        return [2] + some_leaf(chance, span), min(n + 1, 8)
-    if kind == 4:
-        k = chance.randint(0, n)
-        return [4, k], n - (k < n)
+        return [2] + some_leaf(chance, span)
     if kind == 1:
-        return [1] + some_place(chance, span), n
+        return [1] + some_place(chance, chance.choice((span, span, span, 200000)))
     if kind == 3:
-        return [3, chance.randint(0, n)] + some_leaf(chance, span), n
+        return [3, chance.randint(0, n)] + some_leaf(chance, span)
     if kind == 5:
-        return some_pairs(chance, n), n
+        return some_pairs(chance, max(n, 1))
     if kind == 6:
-        return [6, chance.randint(0, 1)], n
-    return [kind], n
+        return [6, chance.choice((0, 1, 0, 1, 0, 1, 2))]
+    if kind in (4, 15, 16):
+        return [kind, chance.randint(0, n)]
+    if kind == 19:
+        return [19, chance.randint(0, 16)]
+    return [kind]
 
 
 def some_calls(chance):
+    """A mixed list of calls, and what the reference answers to them."""
+    kept = Reference()
     span = chance.choice((2, 10, 1000, 100000))
     most = chance.choice((2, 3, 4, 5, 8, 8, 9))
-    n = 0
     calls = []
-    for count in range(chance.choice((20, 60, 150))):
-        call, n = some_call(chance, n, span, most)
+    if chance.random() < 0.8:
+        n = chance.randint(1, min(most, 8))
+        calls = [[2] + some_leaf(chance, span) for k in range(n)] + [some_pairs(chance, n), [7]]
+    told = [kept.answer(call) for call in calls]
+    for count in range(len(calls), chance.choice((20, 60, 150, 150))):
+        n = len(kept.leaf_list)
+        call = some_call(chance, n, span, most)
+        # Where nothing is built there is little to tell: then a plan and a build are likelier.
+        if kept.tree is None and n > 0 and chance.random() < 0.3:
+            call = some_pairs(chance, n) if kept.planned is None else [7]
         calls.append(call)
-    return calls
+        told.append(kept.answer(call))
+    return calls, told
 
 
 class AgainstReference(unittest.TestCase):
     def test_mixed_calls(self):
         chance = random.Random(20)
-        for turn in range(120):
-            calls = some_calls(chance)
-            self.assertEqual(ask(*calls), reference_answers(calls), calls)
+        met = set()
+        for turn in range(200):
+            calls, told = some_calls(chance)
+            handed_in = flat(calls)
+            copy = list(handed_in)
+            self.assertEqual(apart(answers(handed_in)), told, calls)
+            self.assertEqual(handed_in, copy)
+            met.update((call[0], answer[0] < 0) for call, answer in zip(calls, told))
+        # Each of the twenty was answered, and each that can be was refused.
+        self.assertEqual({kind for kind, refused in met if not refused}, set(range(20)))
+        self.assertEqual({kind for kind, refused in met if refused}, set(range(1, 20)))
 
     def test_drops_of_eight(self):
         chance = random.Random(21)
@@ -79,9 +109,12 @@ class AgainstReference(unittest.TestCase):
             calls += [some_pairs(chance, 8), [1] + some_place(chance, 50), [7]]
             calls += [some_pairs(chance, 8)]
             for n in range(8, 0, -1):
-                calls += [[4, chance.randrange(n)], [8], [1] + some_place(chance, 90), [8]]
+                calls += [[4, chance.randrange(n)], [12], [13], [14], [8], [1] + some_place(chance, 90), [8]]
+                calls += [[16, chance.randrange(n)], [10], [17], [11], [15, chance.randrange(n)]]
                 if chance.random() < 0.2:
                     calls += [chance.choice(([7], [9]))]
+                if chance.random() < 0.2:
+                    calls += [[10], [10], [10], [10], [12], [13], [14], [11], [11], [11], [11]]
             self.assertEqual(ask(*calls), reference_answers(calls), calls)
 
     def test_plans_of_six_and_fewer(self):
@@ -90,7 +123,7 @@ class AgainstReference(unittest.TestCase):
             for turn in range(4):
                 span = chance.choice((1, 3, 100))
                 calls = [[2] + some_leaf(chance, span) for k in range(n)]
-                calls += [[6, 0], [7], [6, 1], [7]]
+                calls += [[6, 0], [12], [7], [13], [6, 1], [12], [18], [7], [13]]
                 self.assertEqual(ask(*calls), reference_answers(calls), calls)
 
     def test_shapes_in_order(self):

@@ -89,6 +89,21 @@ class Form(unittest.TestCase):
                 self.assertEqual(node.level, 0)
                 self.assertTrue(all(one.asname is None and one.name != "*" for one in node.names), path)
 
+    def test_names_are_drawn_from_where_they_are_defined(self):
+        draws = {}
+        for path in FILES:
+            froms = nodes(path, ast.ImportFrom)
+            draws[path.stem] = [node.module.split(".")[1] for node in froms]
+            for node in froms:
+                tree = ast.parse((PACKAGE / (node.module.split(".")[1] + ".py")).read_text())
+                tree.body = [one for one in tree.body if not isinstance(one, ast.ImportFrom)]
+                self.assertLessEqual({one.name for one in node.names}, set(top_names(tree)), path)
+        # No two files draw from one another: take away again and again what draws from nothing that's left.
+        while draws:
+            free = [name for name in draws if not set(draws[name]) & set(draws)]
+            self.assertNotEqual(free, [], draws)
+            draws = {name: draws[name] for name in draws if name not in free}
+
     def test_names(self):
         for path in FILES:
             tree = ast.parse(path.read_text())

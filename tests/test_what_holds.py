@@ -5,9 +5,12 @@ import random
 import unittest
 
 from clocktree.building import all_wire, mended
-from clocktree.changes import Chip, answer_change
+from clocktree.changes import answer_change
+from clocktree.chip import Chip
 from clocktree.places import apart
-from tests.asking import P, ask, build, drop, leaf, mend, move, retie, shape, source
+from tests.asking import (
+    P, ask, behind, build, drop, ends, last, leaf, mend, move, plan, retie, shape, short, source, sums, told, when)
+from tests.reference import Reference, all_shapes
 
 SHAPE_OF_FOUR = (shape(0, 1, 4, 2, 5, 3), shape(0, 1, 2, 3, 4, 5), shape(3, 1, 0, 4, 5, 2))
 
@@ -67,7 +70,59 @@ def least_wire_of_two(leaves, start):
     return min(found) * P // 2
 
 
+def least_of_three(leaves, start):
+    """The least wire, power and moment of a clock of the shape ((0 1) 2), its joints tried at each place of a grid."""
+    far = [{place: max(abs(place[0] - s), abs(place[1] - t)) for place in GRID} for s, t in
+           [start] + [one[:2] for one in leaves]]
+    late = [one[2] for one in leaves]
+    steps = [bin(need).count("1") for need in (
+        leaves[0][3], leaves[1][3], leaves[2][3], leaves[0][3] | leaves[1][3],
+        leaves[0][3] | leaves[1][3] | leaves[2][3])]
+    found = []
+    for low in GRID:
+        time = max(late[0] + far[1][low], late[1] + far[2][low])
+        own = 2 * time - late[0] - late[1]
+        own_power = (time - late[0]) * steps[0] + (time - late[1]) * steps[1]
+        for root in GRID:
+            between = max(abs(root[0] - low[0]), abs(root[1] - low[1]))
+            end = max(time + between, late[2] + far[3][root])
+            trunk = far[0][root]
+            found.append((
+                own + 2 * end - time - late[2] + trunk,
+                own_power + (end - time) * steps[3] + (end - late[2]) * steps[2] + trunk * steps[4],
+                end + trunk))
+    return [min(one[i] for one in found) * P for i in range(3)]
+
+
+def all_moments(calls, n):
+    return [one[0] for one in behind(calls, *[when(k) for k in range(n)])]
+
+
+def some_shape(chance, n):
+    there = list(range(n))
+    pairs = []
+    for made in range(n, 2 * n - 1):
+        pairs += [there.pop(chance.randrange(len(there))), there.pop(chance.randrange(len(there)))]
+        there.append(made)
+    return shape(*pairs)
+
+
+GRID = tuple(itertools.product(range(-2, 7), repeat=2))
+
+
 class Built(unittest.TestCase):
+    def test_no_clock_of_three_has_less_wire_power_or_time(self):
+        chance = random.Random(8)
+        for turn in range(30):
+            # Whole numbers of four, so that the joints of the best clocks are on the grid.
+            leaves = [(chance.choice((0, 4)), chance.choice((0, 4)), chance.choice((0, 0, 4)), chance.randint(0, 7))
+                      for k in range(3)]
+            start = (chance.randint(-6, 10), chance.randint(-6, 10))
+            calls = [leaf(*one) for one in leaves] + [source(*start), shape(0, 1, 3, 2), build()]
+            (wire, power, trunk), (first, end) = behind(calls, sums(), ends())
+            self.assertEqual([wire, power, end], least_of_three(leaves, start), calls)
+            self.assertEqual(first, end)
+
     def test_everywhere_at_the_same_moment_and_nothing_short(self):
         chance = random.Random(3)
         for turn in range(300):
@@ -110,17 +165,100 @@ class Mended(unittest.TestCase):
             more = all_wire(mended(chip.built, chip.leaves, chip.source)) - all_wire(chip.built)
             self.assertEqual(more, self.least_more(chip), calls)
 
-    def least_more(self, chip):
-        """Each of the four wires tried longer by 0 to 9 units; the trunk needs nothing of the others."""
+    def test_no_way_to_tie_it_anew_takes_less(self):
+        chance = random.Random(9)
+        for turn in range(20):
+            # Whole numbers of four, so that all joints and lengths are whole.
+            calls = [leaf(4 * chance.randint(-1, 1), 4 * chance.randint(-1, 1)) for k in range(3)]
+            calls += [shape(0, 1, 3, 2), build()]
+            calls += [move(k, 4 * chance.randint(0, 1), 4 * chance.randint(0, 1), chance.randint(0, 2)) for k in (0, 1)]
+            chip = chip_after(*calls)
+            places = places_of(chip)
+            chip.built.wires = tuple(
+                tuple(apart(places[3 + i], places[side]) for side in pair) for i, pair in enumerate(chip.built.pairs))
+            chip.built.trunk = 0
+            self.assertEqual(last(*calls, retie()), [all_wire(chip.built) + self.least_more(chip, 14)], calls)
+
+    def least_more(self, chip, most=10):
+        """Each of the four wires tried longer by fewer units than most; the trunk needs nothing of the others."""
         built = chip.built
         before = built.wires
         found = []
-        for a, b, c, d in itertools.product(range(0, 10 * P, P), repeat=4):
+        for a, b, c, d in itertools.product(range(0, most * P, P), repeat=4):
             built.wires = ((before[0][0] + a, before[0][1] + b), (before[1][0] + c, before[1][1] + d))
             if a + b + c + d < min(found, default=99 * P) and len(set(moments(chip))) == 1 and short_wires(chip) == 0:
                 found.append(a + b + c + d)
         built.wires = before
         return min(found) + trunk_lacks(chip)
+
+
+class AsTold(unittest.TestCase):
+    def test_built_mended_and_tied_anew_it_is_everywhere_at_the_same_moment(self):
+        chance = random.Random(10)
+        for turn in range(300):
+            n = chance.randint(1, 8)
+            calls = some_chip(chance, n, chance.choice((0, 3, 30))) + [some_shape(chance, n), build()]
+            self.same_moment(calls, n)
+            for count in range(3):
+                calls += [move(chance.randrange(n), chance.randint(-9, 9), chance.randint(-9, 9), chance.randint(0, 9))]
+            calls += [source(chance.randint(-9, 9), chance.randint(-9, 9))]
+            if n > 1 and chance.random() < 0.5:
+                calls += [drop(chance.randrange(n))]
+                n -= 1
+            for last_call in (mend(), retie(), build()):
+                self.same_moment(calls + [last_call], n)
+
+    def same_moment(self, calls, n):
+        given = behind(calls, short(), ends())
+        self.assertEqual(given[0], [0], calls)
+        self.assertEqual(given[1], all_moments(calls, n)[:1] * 2, calls)
+        self.assertEqual(len(set(all_moments(calls, n))), 1, calls)
+
+    def test_a_leaf_that_is_dropped_leaves_the_others_moments(self):
+        chance = random.Random(11)
+        for turn in range(200):
+            n = chance.randint(2, 8)
+            calls = some_chip(chance, n, chance.choice((0, 3, 30))) + [some_shape(chance, n), build()]
+            calls += [move(k, chance.randint(-9, 9), 0, chance.randint(0, 50)) for k in range(n)]
+            calls += [source(chance.randint(-9, 9), 0)]
+            kept = all_moments(calls, n)
+            while n > 1:
+                k = chance.randrange(n)
+                n -= 1
+                calls += [drop(k)]
+                kept = kept[:k] + kept[k + 1:]
+                self.assertEqual(all_moments(calls, n), kept, calls)
+                self.assertEqual(last(*calls, ends()), [min(kept), max(kept)], calls)
+
+    def test_over_all_shapes_the_plan_has_the_least_behind_its_trunk(self):
+        chance = random.Random(12)
+        for turn in range(25):
+            n = chance.randint(1, 4)
+            calls = [leaf(chance.randint(-9, 9), chance.randint(-9, 9), chance.choice((0, 5)), chance.randint(0, 7))
+                     for k in range(n)]
+            # Each shape is built and looked at through the calls alone, in the order of all shapes.
+            shapes = [pairs_of(node, n) for node in all_shapes(list(range(n)))]
+            comes_to = [self.behind_its_trunk(calls + [shape(*pairs)]) for pairs in shapes]
+            for by, rank in ((0, lambda one: (one[0], one[1])), (1, lambda one: (one[2], one[0]))):
+                best = min(range(len(shapes)), key=lambda i: rank(comes_to[i]))
+                self.assertEqual(behind(calls, plan(by), told()),
+                                 [comes_to[best], [2 * n - 2] + shapes[best]], (calls, by))
+
+    def behind_its_trunk(self, calls):
+        """Wire, time, power without the trunk."""
+        (wire, power, trunk), (first, end) = behind(calls + [build()], sums(), ends())
+        n = len([call for call in calls if call[0] == 2])
+        needs = 0
+        for call in calls[:n]:
+            needs |= call[4]
+        return [wire - trunk, end - trunk, power - trunk * bin(needs).count("1")]
+
+
+def pairs_of(node, n):
+    kept = Reference()
+    kept.leaf_list = [None] * n
+    kept.planned = node
+    return kept.do_told()[1:]
 
 
 class Dropped(unittest.TestCase):
